@@ -1,0 +1,1 @@
+"""Spikebook: bills and credits, and what is set against what."""
